@@ -1,0 +1,1 @@
+"""Chains of cells that keep one number each and pass on the others."""
