@@ -1,11 +1,12 @@
 """Cells, which keep one of two numbers, and chains of them."""
 
-from siftchain.checks import check_row, is_number, is_within
-from siftchain.errors import InvalidChain, InvalidNumber, InvalidText, UnknownCell
+from siftchain.checks import LONGEST_ROW, check_index, check_number, check_row, is_number
+from siftchain.errors import InvalidChain, InvalidText
 
-LONGEST_ROW = 1000
 MOST_DIGITS = 10
 NEAR_START = "near:"
+# The rules without a mark, in the order of their words.
+PLAIN_RULES = ("first", "greater", "last", "less")
 
 
 class Cell:
@@ -94,8 +95,7 @@ class Near(Cell):
     KIND = "near"
 
     def __init__(self, mark):
-        if not is_number(mark):
-            raise InvalidNumber("a mark is an integer from -10 ** 9 to 10 ** 9")
+        check_number(mark)
         self.mark = mark
 
     def __call__(self, held, came):
@@ -205,8 +205,7 @@ class Chain:
         return len(self.cells)
 
     def __getitem__(self, index):
-        if not is_within(index, 0, len(self.cells) - 1):
-            raise UnknownCell("no cell of the chain has this index")
+        check_index(index, len(self.cells))
         return self.cells[index]
 
     def __iter__(self):

@@ -1,8 +1,9 @@
-"""What the whole package accepts as an integer, as a number and as a row."""
+"""What the whole package accepts as an integer, a number, an index and a row."""
 
-from siftchain.errors import InvalidRow
+from siftchain.errors import InvalidNumber, InvalidRow, UnknownCell
 
 LIMIT = 10 ** 9
+LONGEST_ROW = 1000
 
 
 def is_within(value, least, most):
@@ -18,6 +19,18 @@ def is_number(value):
     return is_within(value, -LIMIT, LIMIT)
 
 
+def check_number(value):
+    """Raise InvalidNumber unless the value is a number that cells can hold."""
+    if not is_number(value):
+        raise InvalidNumber("not an integer from -10 ** 9 to 10 ** 9")
+
+
+def check_index(index, many):
+    """Raise UnknownCell unless the index is that of one of so many cells."""
+    if not is_within(index, 0, many - 1):
+        raise UnknownCell("no cell of the chain has this index")
+
+
 def check_row(row, longest):
     """Raise InvalidRow unless the row is a list of numbers that is not too long."""
     if not isinstance(row, list):
@@ -25,3 +38,10 @@ def check_row(row, longest):
     for at, number in enumerate(row):
         if at == longest or not is_number(number):
             raise InvalidRow(at)
+
+
+def check_some(row, longest):
+    """Raise InvalidRow for the same, and if there are no numbers."""
+    check_row(row, longest)
+    if not row:
+        raise InvalidRow(0)

@@ -1,17 +1,10 @@
 """Rows of numbers that come into a chain again and again."""
 
-from siftchain.checks import check_row, is_within
-from siftchain.errors import InvalidNumber, InvalidRow
+from siftchain.checks import check_some, is_within
+from siftchain.errors import InvalidNumber
 
 LONGEST_REPEATED = 12
 MOST_TICKS = 10 ** 18
-
-
-def check_repeated(row):
-    """Raise InvalidRow unless the row can come in again and again."""
-    check_row(row, LONGEST_REPEATED)
-    if not row:
-        raise InvalidRow(0)
 
 
 def check_count(value, least):
@@ -58,7 +51,7 @@ def times_until(ticks, at, start, end):
 
 def nth_out(chain, row, number):
     """Return the n-th number that comes out."""
-    check_repeated(row)
+    check_some(row, LONGEST_REPEATED)
     check_count(number, 1)
     helds, outs, start = run_until_repeat(chain, row)
     # Filling the cells takes one tick for each; then a number comes out in every tick.
@@ -68,7 +61,7 @@ def nth_out(chain, row, number):
 
 def held_after(chain, row, ticks):
     """Return the tuple of what the cells hold after so many ticks."""
-    check_repeated(row)
+    check_some(row, LONGEST_REPEATED)
     check_count(ticks, 0)
     helds, outs, start = run_until_repeat(chain, row)
     return helds[same_tick(ticks, start, len(outs))]
@@ -76,14 +69,14 @@ def held_after(chain, row, ticks):
 
 def find_cycle(chain, row):
     """Return the first tick that is repeated and after how many ticks it first is."""
-    check_repeated(row)
+    check_some(row, LONGEST_REPEATED)
     helds, outs, start = run_until_repeat(chain, row)
     return start, len(helds) - start
 
 
 def count_out(chain, row, ticks):
     """Return how often each number comes out in the first ticks."""
-    check_repeated(row)
+    check_some(row, LONGEST_REPEATED)
     check_count(ticks, 0)
     helds, outs, start = run_until_repeat(chain, row)
     counts = {}
@@ -96,7 +89,7 @@ def count_out(chain, row, ticks):
 
 def first_unlike(chain, other, row):
     """Return the first tick in which two chains let out different things, or None."""
-    check_repeated(row)
+    check_some(row, LONGEST_REPEATED)
     seen = {}
     held = chain.empty
     other_held = other.empty
